@@ -1,0 +1,1 @@
+"""Flat webs drawn with straight ties."""

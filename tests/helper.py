@@ -1,0 +1,205 @@
+"""Webs for the tests, made without the program."""
+
+import random
+from functools import cmp_to_key
+
+TRIANGLE = ((1, 2), (0, 2), (0, 1))
+CHAIN = ((1,), (0, 2), (1,))
+# Four places all tied, the last one amid the others, rows to the left.
+FOUR = ((1, 3, 2), (0, 2, 3), (0, 3, 1), (0, 1, 2))
+# Four places all tied, rows sorted: not flat.
+TWISTED = ((1, 2, 3), (0, 2, 3), (0, 1, 3), (0, 1, 2))
+# Seven places all tied, drawn on a ring: each face has three places, yet it is not flat.
+SEVEN = tuple(
+    (lambda row: row[row.index(min(row)):] + row[:row.index(min(row))])(
+        tuple((p + by) % 7 for by in (1, 3, 2, 6, 4, 5))
+    )
+    for p in range(7)
+)
+# Two rounds of three places with one place in common.
+BOW = ((1, 2, 3, 4), (0, 2), (0, 1), (0, 4), (0, 3))
+
+ANYTHING = [
+    None, True, False, 0, 1, -1, 10 ** 5000, "", "0", "\n", "abc", b"", b"0", (), [], {}, set(), frozenset(),
+    (1,), [1], {1: 2}, {"0": 1}, object(), int, len, range(3), iter(()), NotImplemented, Ellipsis, ValueError("x"),
+    ((),), ((), (), ()), "\ud800", "\u0663", "\u00b2", "\x00",
+]
+
+
+def least_first(row):
+    at = row.index(min(row))
+    return tuple(row[at:]) + tuple(row[:at])
+
+
+def star(many):
+    return (tuple(range(1, many)),) + ((0,),) * (many - 1)
+
+
+def chain(many):
+    return tuple(tuple(q for q in (p - 1, p + 1) if 0 <= q < many) for p in range(many))
+
+
+def ring(many):
+    return tuple(tuple(sorted({(p - 1) % many, (p + 1) % many})) for p in range(many))
+
+
+def wheel(many):
+    """Place 0 amid a ring of the others, which go round it to the left."""
+    outer = many - 1
+    rows = [tuple(range(1, many))]
+    for p in range(outer):
+        rows.append(least_first([(p + 1) % outer + 1, 0, (p - 1) % outer + 1]))
+    return tuple(rows)
+
+
+def all_tied(many):
+    return tuple(tuple(q for q in range(many) if q != p) for p in range(many))
+
+
+def cross(one, other):
+    return one[0] * other[1] - one[1] * other[0]
+
+
+def away(start, end):
+    return (end[0] - start[0], end[1] - start[1])
+
+
+def side(p, q, r):
+    """Above 0 where r lies at the left hand on the way from p to q."""
+    return cross(away(p, q), away(p, r))
+
+
+def turn_key(points, place):
+    """Sorts places by their direction from this one, to the left."""
+
+    def half(q):
+        x, y = away(points[place], points[q])
+        return 0 if y > 0 or (y == 0 and x > 0) else 1
+
+    def compare(q, r):
+        if half(q) != half(r):
+            return half(q) - half(r)
+        return -side(points[place], points[q], points[r])
+
+    return cmp_to_key(compare)
+
+
+def web_of_points(points, pairs):
+    """The web of these ties, turned as they are drawn."""
+    rows = [[] for _ in points]
+    for p, q in pairs:
+        rows[p].append(q)
+        rows[q].append(p)
+    return tuple(least_first(sorted(row, key=turn_key(points, p))) for p, row in enumerate(rows))
+
+
+def lies_on(points, tie, place):
+    start, end, at = points[tie[0]], points[tie[1]], points[place]
+    if side(start, end, at) != 0:
+        return False
+    return min(start, end) <= at <= max(start, end)
+
+
+def meet(points, one, other):
+    """Whether two ties have a point in common beside a common end, none of them leading over other places."""
+    if set(one) & set(other):
+        return False
+    a, b, c, d = points[one[0]], points[one[1]], points[other[0]], points[other[1]]
+    return side(a, b, c) * side(a, b, d) < 0 and side(c, d, a) * side(c, d, b) < 0
+
+
+def hangs(many, pairs, without=()):
+    """Whether the places left hang together by these ties, by joining groups."""
+    group = list(range(many))
+    for p, q in pairs:
+        if p not in without and q not in without:
+            old, new = group[p], group[q]
+            group = [new if one == old else one for one in group]
+    return len({group[p] for p in range(many) if p not in without}) <= 1
+
+
+def random_flat(seed, many, share):
+    """Points and a flat web of so many places; about that share (of ten) of the needless ties is left in it."""
+    chance = random.Random(seed)
+    spots = [(x, y) for x in range(12) for y in range(12)]
+    points = chance.sample(spots, many)
+    wished = [(p, q) for p in range(many) for q in range(p + 1, many)]
+    chance.shuffle(wished)
+    pairs = []
+    for tie in wished:
+        if any(lies_on(points, tie, p) for p in range(many) if p not in tie):
+            continue
+        if not any(meet(points, tie, other) for other in pairs):
+            pairs.append(tie)
+    for tie in list(pairs):
+        rest = [one for one in pairs if one != tie]
+        if chance.randrange(10) >= share and hangs(many, rest):
+            pairs = rest
+    return points, web_of_points(points, pairs)
+
+
+def pairs_of(web):
+    return sorted({(min(p, q), max(p, q)) for p, row in enumerate(web) for q in row})
+
+
+def flat_webs():
+    """Some flat webs of all sorts, up to 40 places."""
+    webs = [TRIANGLE, CHAIN, FOUR, BOW]
+    for many in (3, 4, 5, 7, 12, 40):
+        webs += [star(many), chain(many), ring(many)]
+    webs += [wheel(many) for many in (4, 5, 6, 9, 40)]
+    for seed in range(30):
+        webs.append(random_flat(seed, 3 + seed % 12, seed % 11)[1])
+    webs += [random_flat(seed, 40, share)[1] for seed, share in ((100, 0), (101, 3), (102, 7), (103, 10))]
+    return webs
+
+
+def other_webs():
+    """Some webs that are not flat."""
+    webs = [TWISTED, SEVEN] + [all_tied(many) for many in (5, 6, 9)]
+    for seed in range(200):
+        chance = random.Random(seed)
+        web = random_rows(chance, chance.randrange(5, 11))
+        if web is not None and not flat_by_count(web):
+            webs.append(web)
+    return webs
+
+
+def random_rows(chance, many):
+    """Any ties, any turns: a web, or None where it doesn't hang together."""
+    pairs = [(p, q) for p in range(many) for q in range(p + 1, many) if chance.randrange(3) == 0]
+    if not hangs(many, pairs):
+        return None
+    rows = [[] for _ in range(many)]
+    for p, q in pairs:
+        rows[p].append(q)
+        rows[q].append(p)
+    for row in rows:
+        chance.shuffle(row)
+    return tuple(least_first(row) for row in rows)
+
+
+def follows(web, step):
+    p, q = step
+    return (q, web[q][(web[q].index(p) - 1) % len(web[q])])
+
+
+def cycles(web):
+    """The sets of steps that go round one face."""
+    steps = {(p, q) for p, row in enumerate(web) for q in row}
+    found = []
+    while steps:
+        step = start = min(steps)
+        steps_here = []
+        while True:
+            steps_here.append(step)
+            steps.discard(step)
+            step = follows(web, step)
+            if step == start:
+                break
+        found.append(steps_here)
+    return found
+
+
+def flat_by_count(web):
+    return len(web) + len(cycles(web)) - len(pairs_of(web)) == 2
