@@ -203,3 +203,22 @@ def cycles(web):
 
 def flat_by_count(web):
     return len(web) + len(cycles(web)) - len(pairs_of(web)) == 2
+
+
+def plainly_web(thing):
+    """Said again in other words, to be held against the program."""
+    if not isinstance(thing, tuple) or len(thing) < 3:
+        return False
+    for p, row in enumerate(thing):
+        if not isinstance(row, tuple) or not row:
+            return False
+        for q in row:
+            if type(q) is not int or q == p or not 0 <= q < len(thing):
+                return False
+        if sorted(set(row)) != sorted(row) or row[0] != min(row):
+            return False
+    for p, row in enumerate(thing):
+        for q in row:
+            if p not in thing[q]:
+                return False
+    return hangs(len(thing), pairs_of(thing))

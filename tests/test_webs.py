@@ -3,28 +3,9 @@ import unittest
 
 from restdraw.webs import behind, faces, is_flat, is_web, mirrored, renamed, ties
 from tests.helper import (
-    ANYTHING, BOW, CHAIN, FOUR, SEVEN, TRIANGLE, TWISTED, all_tied, chain, cycles, flat_webs, hangs, least_first,
-    other_webs, pairs_of, random_flat, ring, star, wheel,
+    ANYTHING, BOW, CHAIN, FOUR, SEVEN, TRIANGLE, TWISTED, all_tied, chain, cycles, flat_webs, least_first,
+    other_webs, pairs_of, plainly_web, random_flat, ring, star, wheel,
 )
-
-
-def plainly_web(thing):
-    """Said again in other words, to be held against the program."""
-    if not isinstance(thing, tuple) or len(thing) < 3:
-        return False
-    for p, row in enumerate(thing):
-        if not isinstance(row, tuple) or not row:
-            return False
-        for q in row:
-            if type(q) is not int or q == p or not 0 <= q < len(thing):
-                return False
-        if sorted(set(row)) != sorted(row) or row[0] != min(row):
-            return False
-    for p, row in enumerate(thing):
-        for q in row:
-            if p not in thing[q]:
-                return False
-    return hangs(len(thing), pairs_of(thing))
 
 
 class TestWebs(unittest.TestCase):
