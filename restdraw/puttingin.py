@@ -18,7 +18,7 @@ def with_behind(row, place, added):
 
 def put_in(web, step, other):
     """The web with a tie between the places from which two steps round one face lead."""
-    if not is_step(web, step) or not is_step(web, other) or other not in steps_round(web, step):
+    if not is_step(web, step) or other not in steps_round(web, step):
         raise NoFace("these are no two steps round one face")
     p, v = step
     q, w = other

@@ -70,6 +70,7 @@ class TestReckoning(unittest.TestCase):
 
     def test_sign(self):
         self.assertEqual([sign(one) for one in ((-7, 2), (0, 1), (1, 9), (GREAT, 1))], [-1, 0, 1, 1])
+        self.assertEqual([sign(one) for one in ((-1, 1), (-1, GREAT), (1, 1), (-GREAT, 2))], [-1, -1, 1, -1])
 
     def test_told_again_alike(self):
         self.assertEqual(plus((1, 3), (1, 6)), plus((1, 3), (1, 6)))

@@ -43,6 +43,8 @@ class TestWebs(unittest.TestCase):
         self.assertIs(is_web(((1, 2), (0, 1, 2), (0, 1))), False)
         self.assertIs(is_web(((1, 2, 2), (0, 2), (0, 1))), False)
         self.assertIs(is_web(((1, 1, 2), (0, 2), (0, 1))), False)
+        self.assertIs(is_web(((1, 1, 2), (0, 0, 2), (0, 1))), False)
+        self.assertIs(is_web(((1, 2, 1, 2), (0, 2, 0), (0, 1, 0))), False)
         self.assertIs(is_web(((1, 2), (0, 2), (0, 1), ())), False)
         self.assertIs(is_web(((1, 2), (0,), (0, 1))), False)
         self.assertIs(is_web(((1,), (0, 2), (0, 1))), False)
