@@ -7,6 +7,9 @@ Their words never tell the values: a value may be a number of more figures than 
 class DrawError(ValueError):
     """What all refusals stand under."""
 
+    def __init__(self, words):
+        ValueError.__init__(self, words)
+
 
 class NoText(DrawError):
     """What should be read is no such text."""
