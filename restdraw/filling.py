@@ -1,8 +1,7 @@
 """Flat webs filled: ties put in till each face has three places."""
 
-from restdraw.errors import NotFlat
 from restdraw.puttingin import put_in
-from restdraw.webs import faces, is_flat, ties
+from restdraw.webs import faces, must_be_flat, ties
 
 
 def wide_face(web):
@@ -27,8 +26,7 @@ def cut(web, face):
 
 def filled(web):
     """The web with ties put in till each face has three places, and the sorted list of these ties."""
-    if not is_flat(web):
-        raise NotFlat(len(faces(web)))
+    must_be_flat(web)
     full = web
     face = wide_face(full)
     while face is not None:

@@ -25,6 +25,12 @@ def fraction(n, d):
     return (n // divisor, d // divisor)
 
 
+def whole_point(pair):
+    """The point (x, y) of two whole numbers."""
+    x, y = pair
+    return ((x, 1), (y, 1))
+
+
 def plus(one, other):
     """The sum of two fractions."""
     return fraction(one[0] * other[1] + other[0] * one[1], one[1] * other[1])

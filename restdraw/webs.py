@@ -1,9 +1,16 @@
 """Webs: about each place its neighbours in turn; their ties, steps and faces."""
 
+from restdraw.errors import NotFlat
+
 
 def is_whole(thing):
     """Whether it is a whole number; True and False are none."""
     return isinstance(thing, int) and not isinstance(thing, bool)
+
+
+def are_whole(thing, many):
+    """Whether it is a tuple of just so many whole numbers."""
+    return isinstance(thing, tuple) and len(thing) == many and all([is_whole(one) for one in thing])
 
 
 def from_least(row):
@@ -93,6 +100,12 @@ def faces(web):
 def is_flat(web):
     """Whether places and faces together are two more than ties."""
     return len(web) + len(faces(web)) == len(ties(web)) + 2
+
+
+def must_be_flat(web):
+    """Refuses a web that is not flat."""
+    if not is_flat(web):
+        raise NotFlat(len(faces(web)))
 
 
 def mirrored(web):

@@ -1,7 +1,12 @@
-"""Webs for the tests, made without the program."""
+"""Webs and drawings for the tests, made without the program; and how refusals are looked at."""
 
 import random
+import unittest
+from fractions import Fraction
 from functools import cmp_to_key
+from math import gcd
+
+from restdraw import errors
 
 TRIANGLE = ((1, 2), (0, 2), (0, 1))
 CHAIN = ((1,), (0, 2), (1,))
@@ -222,3 +227,127 @@ def plainly_web(thing):
             if p not in thing[q]:
                 return False
     return hangs(len(thing), pairs_of(thing))
+
+
+def three_tied_by_groups(web):
+    """Said again in other words, to be held against the program."""
+    many = len(web)
+    without = [(p,) for p in range(many)] + [(p, q) for p in range(many) for q in range(p)]
+    return many >= 4 and all(hangs(many, pairs_of(web), some) for some in without)
+
+
+def put_before(row, place, added):
+    at = row.index(place)
+    return row[:at] + [added] + row[at:]
+
+
+def put_amid(rows, face):
+    """One more place amid a face of three, tied to each of it."""
+    p, q, r = face
+    added = len(rows)
+    for before, here in ((p, q), (q, r), (r, p)):
+        rows[here] = put_before(rows[here], before, added)
+    rows.append([p, q, r])
+
+
+def exchange(rows, p, q):
+    """The tie between two faces of three exchanged for that between the two other places, where there is none."""
+    r, s = follows(rows, (p, q))[1], follows(rows, (q, p))[1]
+    if r == s or s in rows[r]:
+        return
+    rows[r] = put_before(rows[r], q, s)
+    rows[s] = put_before(rows[s], p, r)
+    rows[p].remove(q)
+    rows[q].remove(p)
+
+
+def three_cornered(seed, many):
+    """A web of so many places, three at least, each face of which has three places."""
+    chance = random.Random(seed)
+    rows = [list(row) for row in TRIANGLE]
+    while len(rows) < many:
+        face = [p for p, q in chance.choice(cycles(rows))]
+        put_amid(rows, face)
+        for _ in range(chance.randrange(len(rows))):
+            p = chance.randrange(len(rows))
+            if len(rows[p]) > 3:
+                q = chance.choice(rows[p])
+                if len(rows[q]) > 3:
+                    exchange(rows, p, q)
+    return tuple(least_first(row) for row in rows)
+
+
+def without_tie(web, tie):
+    return tuple(least_first([q for q in row if {p, q} != set(tie)]) for p, row in enumerate(web))
+
+
+def three_tied(seed, many, share):
+    """A flat, three tied web; ties that it can do without are left in it by about that share (of ten)."""
+    chance = random.Random(seed)
+    web = three_cornered(seed, many)
+    for tie in chance.sample(pairs_of(web), len(pairs_of(web))):
+        p, q = tie
+        if min(len(web[p]), len(web[q])) > 3 and chance.randrange(10) >= share:
+            left = without_tie(web, tie)
+            if three_tied_by_groups(left):
+                web = left
+    return web
+
+
+def renamed_by(web, names):
+    rows = [None] * len(web)
+    for p, row in enumerate(web):
+        rows[names[p]] = least_first([names[q] for q in row])
+    return tuple(rows)
+
+
+def faces_of(web):
+    """The faces, each from its least step on, sorted."""
+    return sorted(tuple(p for p, q in steps) for steps in cycles(web))
+
+
+def bowl(many, far=10 ** 6 - 1):
+    """So many corners, on a bowl's wall, that bend strictly to the right; their numbers have up to 12 figures."""
+    return tuple((x, x * x - far) for x in [far - 7 * p for p in range(many)])
+
+
+def number(pair):
+    """A fraction, looked at whether it is one."""
+    assert isinstance(pair, tuple) and len(pair) == 2, pair
+    n, d = pair
+    assert type(n) is int and type(d) is int and d >= 1 and gcd(n, d) == 1, pair
+    return Fraction(n, d)
+
+
+def spot(point):
+    """A point, looked at whether it is one."""
+    assert isinstance(point, tuple) and len(point) == 2, point
+    return (number(point[0]), number(point[1]))
+
+
+def pair_of(one):
+    """What the program takes for this number."""
+    one = Fraction(one)
+    return (one.numerator, one.denominator)
+
+
+def drawing_of(spots):
+    return tuple((pair_of(x), pair_of(y)) for x, y in spots)
+
+
+REFUSALS = [
+    thing for thing in vars(errors).values()
+    if isinstance(thing, type) and issubclass(thing, errors.DrawError) and thing is not errors.DrawError
+]
+
+
+class Refusing(unittest.TestCase):
+    def taken(self, kind, ask, *handed):
+        """The refusal that comes of it, looked at whether it is this one and no other."""
+        with self.assertRaises(kind) as taken:
+            ask(*handed)
+        for other in REFUSALS:
+            self.assertEqual(isinstance(taken.exception, other), other is kind)
+        self.assertIsInstance(taken.exception, errors.DrawError)
+        self.assertIsInstance(taken.exception, ValueError)
+        return taken.exception

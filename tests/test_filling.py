@@ -1,17 +1,17 @@
 import random
 import unittest
 
-from restdraw.errors import Doubled, DrawError, NoFace, NotFlat, Parted
+from restdraw.errors import NotFlat
 from restdraw.filling import filled
 from restdraw.puttingin import taken_out
 from restdraw.webs import faces, is_flat, is_web, ties
 from tests.helper import (
-    CHAIN, FOUR, SEVEN, TRIANGLE, TWISTED, all_tied, chain, cycles, flat_webs, other_webs, pairs_of, random_flat, ring,
-    star, wheel,
+    CHAIN, FOUR, SEVEN, TRIANGLE, TWISTED, Refusing, all_tied, chain, cycles, flat_webs, other_webs, pairs_of,
+    random_flat, ring, star, wheel,
 )
 
 
-class TestFilled(unittest.TestCase):
+class TestFilled(Refusing):
     def look_over(self, web):
         told = filled(web)
         self.assertIsInstance(told, tuple)
@@ -57,18 +57,11 @@ class TestFilled(unittest.TestCase):
 
     def test_not_flat(self):
         for web in other_webs() + [all_tied(20)]:
-            with self.assertRaises(NotFlat) as taken:
-                filled(web)
-            self.assertEqual(taken.exception.faces, len(cycles(web)))
-            self.assertIsInstance(taken.exception, DrawError)
-            self.assertIsInstance(taken.exception, ValueError)
-            self.assertNotIsInstance(taken.exception, (NoFace, Doubled, Parted))
+            self.assertEqual(self.taken(NotFlat, filled, web).faces, len(cycles(web)))
 
     def test_how_many_faces(self):
         for web, many in ((SEVEN, 14), (TWISTED, 2)):
-            with self.assertRaises(NotFlat) as taken:
-                filled(web)
-            self.assertEqual(taken.exception.faces, many)
+            self.assertEqual(self.taken(NotFlat, filled, web).faces, many)
 
     def test_the_list_is_the_askers_own(self):
         for web in (ring(6), wheel(6), star(6), TRIANGLE):

@@ -1,16 +1,15 @@
 import random
 import unittest
 
-from restdraw.errors import Doubled, DrawError, NoFace, NoTie, Parted
+from restdraw.errors import Doubled, NoFace, NoTie, Parted
 from restdraw.puttingin import put_in, taken_out
 from restdraw.webs import faces, is_flat, is_web, mirrored, ties
 from tests.helper import (
-    BOW, CHAIN, FOUR, SEVEN, TRIANGLE, TWISTED, chain, cycles, flat_webs, hangs, least_first, lies_on, meet,
+    BOW, CHAIN, FOUR, SEVEN, TRIANGLE, TWISTED, Refusing, chain, cycles, flat_webs, hangs, least_first, lies_on, meet,
     other_webs, pairs_of, random_flat, ring, star, web_of_points, wheel,
 )
 
 GREAT = 10 ** 5000
-KINDS = (NoFace, Doubled, NoTie, Parted)
 
 
 def steps_of(web):
@@ -24,17 +23,6 @@ def with_right_behind(row, place, added):
         if one == place:
             told.append(added)
     return least_first(told)
-
-
-class Refusing(unittest.TestCase):
-    def taken(self, kind, ask, *handed):
-        with self.assertRaises(kind) as taken:
-            ask(*handed)
-        for other in KINDS:
-            self.assertEqual(isinstance(taken.exception, other), other is kind)
-        self.assertIsInstance(taken.exception, DrawError)
-        self.assertIsInstance(taken.exception, ValueError)
-        return taken.exception
 
 
 class TestPutIn(Refusing):
