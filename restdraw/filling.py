@@ -1,13 +1,8 @@
 """Flat webs filled: ties put in till each face has three places."""
 
+from restdraw.bases import uncornered_face
 from restdraw.puttingin import put_in
-from restdraw.webs import faces, must_be_flat, ties
-
-
-def wide_face(web):
-    """The first face of more than three places, or None."""
-    wide = [face for face in faces(web) if len(face) > 3]
-    return wide[0] if wide else None
+from restdraw.webs import must_be_flat, ties
 
 
 def cut(web, face):
@@ -28,10 +23,10 @@ def filled(web):
     """The web with ties put in till each face has three places, and the sorted list of these ties."""
     must_be_flat(web)
     full = web
-    face = wide_face(full)
+    face = uncornered_face(full)
     while face is not None:
         step, other = cut(full, face)
         full = put_in(full, step, other)
-        face = wide_face(full)
+        face = uncornered_face(full)
     before = {tie: True for tie in ties(web)}
     return (full, [tie for tie in ties(full) if tie not in before])

@@ -56,7 +56,8 @@ def solved(rows, sides):
         leading = [k for k in range(at, many) if table[k][at] != 0]
         if not leading:
             return None
-        table[at], table[leading[0]] = table[leading[0]], table[at]
+        first = leading[0]
+        table = table[:at] + [table[first]] + table[at:first] + table[first + 1:]
         table = swept(table, at, divisor)
         divisor = table[at][at]
     return tuple([(fraction(row[-2], divisor * wide), fraction(row[-1], divisor * high)) for row in table])

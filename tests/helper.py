@@ -306,6 +306,12 @@ def faces_of(web):
     return sorted(tuple(p for p, q in steps) for steps in cycles(web))
 
 
+def bases_of(web):
+    """The bases of a three-cornered web: each face told backwards, from each of its places on."""
+    backwards = [face[::-1] for face in faces_of(web)]
+    return sorted(face[at:] + face[:at] for face in backwards for at in range(3))
+
+
 def bowl(many, far=10 ** 6 - 1):
     """So many corners, on a bowl's wall, that bend strictly to the right; their numbers have up to 12 figures."""
     return tuple((x, x * x - far) for x in [far - 7 * p for p in range(many)])

@@ -187,8 +187,8 @@ class TestAtRest(Refusing):
         self.assertEqual(self.taken(NotTied, at_rest, TRIANGLE, (0, 2, 1), THREE, {}).breaks, [])
         self.assertEqual(self.taken(NotTied, at_rest, CHAIN, (0, 1, 2, 1), THREE, {}).breaks, [(1,)])
         self.assertEqual(self.taken(NotTied, at_rest, ring(4), (0, 3, 2, 1), THREE, {}).breaks, [(0, 2), (1, 3)])
-        self.assertEqual(self.taken(NotTied, at_rest, star(4), (0, 1, 0, 2, 0, 3), THREE, {}).breaks, breaks_of(star(4)))
-        self.assertEqual(self.taken(NotTied, at_rest, BOW, (0, 1, 2), THREE, {}).breaks, breaks_of(BOW))
+        for web in (star(4), BOW):
+            self.assertEqual(self.taken(NotTied, at_rest, web, (0, 1, 2), THREE, {}).breaks, breaks_of(web))
 
     def test_a_list_of_breaks_is_the_askers_own(self):
         told = self.taken(NotTied, at_rest, chain(4), (), (), {})
