@@ -2,7 +2,7 @@
 
 from restdraw.bases import are_round, must_have_base
 from restdraw.errors import NoOrder
-from restdraw.webs import are_whole
+from restdraw.webs import are_whole, from_on
 
 
 def has_ends(web, base, thing):
@@ -88,8 +88,7 @@ def first_loose(web, top):
 
 def from_to(row, first, last):
     """The part of a row, in turn to the left, from one neighbour to another."""
-    start = row.index(first)
-    around = row[start:] + row[:start]
+    around = from_on(row, first)
     return list(around[:around.index(last) + 1])
 
 

@@ -13,10 +13,15 @@ def are_whole(thing, many):
     return isinstance(thing, tuple) and len(thing) == many and all([is_whole(one) for one in thing])
 
 
+def from_on(row, first):
+    """The tuple of these unlike places, as they come round, from this one on."""
+    start = row.index(first)
+    return tuple(row[start:] + row[:start])
+
+
 def from_least(row):
     """The tuple of these unlike places, as they come round, from the least one on."""
-    start = row.index(min(row))
-    return tuple(row[start:] + row[:start])
+    return from_on(row, min(row))
 
 
 def steps_of(web):

@@ -1,6 +1,8 @@
 """Webs and drawings for the tests, made without the program; and how refusals are looked at."""
 
+import itertools
 import random
+import re
 import unittest
 from fractions import Fraction
 from functools import cmp_to_key
@@ -12,6 +14,8 @@ TRIANGLE = ((1, 2), (0, 2), (0, 1))
 CHAIN = ((1,), (0, 2), (1,))
 # Four places all tied, the last one amid the others, rows to the left.
 FOUR = ((1, 3, 2), (0, 2, 3), (0, 3, 1), (0, 1, 2))
+# Its one woods by the base (0, 1, 2).
+FOURS = ((), (), (), (0, 1, 2))
 # Four places all tied, rows sorted: not flat.
 TWISTED = ((1, 2, 3), (0, 2, 3), (0, 1, 3), (0, 1, 2))
 # Seven places all tied, drawn on a ring: each face has three places, yet it is not flat.
@@ -312,6 +316,206 @@ def bases_of(web):
     return sorted(face[at:] + face[:at] for face in backwards for at in range(3))
 
 
+def corners_of(web):
+    """Each face of three, from each of its steps on."""
+    return {face[at:] + face[:at] for face in faces_of(web) for at in range(3)}
+
+
+def laid_plainly(web, base, order):
+    """The stretches and rounds, straight as the words go, or None where it is no order."""
+    a, b, c = base
+    if sorted(order) != list(range(len(web))) or order[:2] != (a, b) or order[-1] != c:
+        return None
+    corners = corners_of(web)
+    around, parts, tops = (a, b), [], [(a, b)]
+    for k, v in enumerate(order):
+        if k < 2:
+            continue
+        ahead = set(order[:k]) & set(web[v])
+        slices = [around[i:j] for i in range(len(around)) for j in range(i + 2, len(around) + 1)]
+        fitting = [part for part in slices if set(part) == ahead]
+        if not fitting:
+            return None
+        part = fitting[0]
+        if any((x, y, v) not in corners for x, y in zip(part, part[1:])):
+            return None
+        left, right = around.index(part[0]), around.index(part[-1])
+        around = around[:left + 1] + (v,) + around[right:]
+        parts.append(part)
+        tops.append(around)
+    return tuple(parts), tuple(tops)
+
+
+def any_order(chance, web, base):
+    """An order, built from its last place on: any place of the round that is tied to just two of it is taken off."""
+    a, b, c = base
+    around, off = [a, c, b], []
+    while len(around) > 2:
+        loose = [p for p in around if p not in (a, b) and len(set(web[p]) & set(around)) == 2]
+        place = chance.choice(loose)
+        at = around.index(place)
+        row = web[place] * 2
+        start = row.index(around[at - 1])
+        shown = row[start:start + row[start:].index(around[at + 1]) + 1]
+        around[at - 1:at + 2] = shown
+        off.append(place)
+    return (a, b) + tuple(off[::-1])
+
+
+def cornered_cases(seed=0, most=40):
+    """Three-cornered webs of three to forty places, each with a base and an order."""
+    for many in range(3, most + 1):
+        chance = random.Random(1000 * seed + many)
+        web = three_cornered(1000 * seed + many, many)
+        base = chance.choice(bases_of(web))
+        yield web, base, any_order(chance, web, base)
+
+
+def outer_of(base):
+    """The outer face, as faces are told."""
+    a, b, c = base
+    return least_first((a, c, b))
+
+
+def have_in_common(points, one, other):
+    """Whether two straight ties of unlike points have any point in common that is not the end of both."""
+    shared = set(one) & set(other)
+    a, b, c, d = points[one[0]], points[one[1]], points[other[0]], points[other[1]]
+    ends = [lies_on(points, one, p) for p in other if p not in shared]
+    ends += [lies_on(points, other, p) for p in one if p not in shared]
+    if any(ends):
+        return True
+    return not shared and side(a, b, c) * side(a, b, d) < 0 and side(c, d, a) * side(c, d, b) < 0
+
+
+def any_meet(points, pairs):
+    """Whether places stand alike, or any two of these ties meet."""
+    spots = [points[p] for p in sorted({p for tie in pairs for p in tie})]
+    if len(set(spots)) < len(spots):
+        return True
+    return any(have_in_common(points, one, other) for one, other in itertools.combinations(pairs, 2))
+
+
+def wrong_orders(order):
+    """Tuples that are no orders, in place of this one."""
+    yield from [(), order[:-1], order[1:], order + order[-1:], order + (len(order),), order[:1], order * 2]
+    yield from [order[::-1], (order,), tuple((p,) for p in order), tuple(str(p) for p in order)]
+    yield tuple(-1 if p == 0 else p for p in order)
+    yield tuple(p - len(order) for p in order)
+    yield tuple(len(order) if p == 0 else p for p in order)
+    yield tuple(10 ** 5000 if p == 0 else p for p in order)
+    yield tuple(bool(p) if p < 2 else p for p in order)
+    yield tuple(True if p == 1 else p for p in order)
+    yield tuple(False if p == 0 else p for p in order)
+    yield tuple(None if p == 2 else p for p in order)
+    yield tuple([p] if p == 2 else p for p in order)
+    yield tuple({} if p == 2 else p for p in order)
+    for at in range(len(order)):
+        others = [-1, order[at] - len(order), len(order), 10 ** 5000, order[at - 1], order[0], order[-1]]
+        for other in others:
+            if other != order[at]:
+                yield order[:at] + (other,) + order[at + 1:]
+
+
+def outs_plainly(web, base, order):
+    """The woods of an order, straight as the words go."""
+    parts = dict(zip(order[2:], laid_plainly(web, base, order)[0]))
+    rows = []
+    for p in range(len(web)):
+        if p in base:
+            rows.append(())
+        else:
+            over = [v for v, part in parts.items() if p in part[1:-1]]
+            assert len(over) == 1
+            rows.append((parts[p][0], parts[p][-1], over[0]))
+    return tuple(rows)
+
+
+def plainly_woods(web, base, thing):
+    """Said again in other words, to be held against the program."""
+    if type(thing) is not tuple or len(thing) != len(web):
+        return False
+    for p, row in enumerate(thing):
+        if type(row) is not tuple or len(row) != (0 if p in base else 3):
+            return False
+        if any(type(q) is not int for q in row) or len(set(row)) < len(row) or not set(row) <= set(web[p]):
+            return False
+    for p, q in pairs_of(web):
+        if not (p in base and q in base) and [q in thing[p], p in thing[q]].count(True) != 1:
+            return False
+    for k, corner in enumerate(base):
+        if any(thing[q].index(corner) != k for q in web[corner] if q not in base):
+            return False
+    for p, row in enumerate(web):
+        if p not in base:
+            around = least_first([(q - thing[p][0]) % len(web) for q in row])
+            named = [(q + thing[p][0]) % len(web) for q in around]
+            signs = ["ABC"[thing[p].index(q)] if q in thing[p] else "abc"[thing[q].index(p)] for q in named]
+            if not re.fullmatch("Ac*Ba*Cb*", "".join(signs)):
+                return False
+    return True
+
+
+def lands_plainly(web, base, woods, place):
+    """The lands by joining faces to groups, straight as the words go."""
+    walls = {frozenset(pair) for pair in itertools.combinations(base, 2)}
+    for k in range(3):
+        here = place
+        while here not in base:
+            walls.add(frozenset((here, woods[here][k])))
+            here = woods[here][k]
+    left = {step: face for face in faces_of(web) for step in zip(face, face[1:] + face[:1])}
+    group = {face: {face} for face in faces_of(web)}
+    for p, q in pairs_of(web):
+        if frozenset((p, q)) not in walls:
+            joined = group[left[p, q]] | group[left[q, p]]
+            group.update(dict.fromkeys(joined, joined))
+    a, b, c = base
+    return tuple(sorted(group[left[step]]) for step in ((b, c), (c, a), (a, b)))
+
+
+def with_row(rows, place, row):
+    return rows[:place] + (row,) + rows[place + 1:]
+
+
+def wrong_woods(web, base, woods):
+    """Tuples that are no woods, in place of these."""
+    many = len(web)
+    yield from [woods[:-1], woods[1:], woods + ((),), woods + woods, (woods,), tuple(list(row) for row in woods)]
+    yield from [((),) * (many + 1), ((),) * (many - 1), (None,) * many, ([],) * many, ("",) * many, (0,) * many]
+    yield ()
+    if many > 3:
+        yield ((),) * many
+    for p, row in enumerate(woods):
+        if p in base:
+            others = [web[p][:1], web[p][:2], web[p][:3], (p,), [], "", None, 0, False, {}, ((),), (None, None, None)]
+        else:
+            others = exchanged_rows(web, p, row)
+        for other in others:
+            yield with_row(woods, p, other)
+
+
+def exchanged_rows(web, p, row):
+    """Rows that can't stand in place of this one."""
+    first, second, third = row
+    others = [
+        (), row[:1], row[:2], row[1:], row + row[:1], row + (p,), list(row), str(row), None, 0, dict.fromkeys(row),
+        (second, first, third), (first, third, second), (third, second, first), row[1:] + row[:1], row[2:] + row[:2],
+        (first, first, third), (first, second, second), (third, second, third), row[:1] * 3, (row,),
+        (first, second, p), (p, second, third), (first, p, third), (first, second, -1), (first, second, len(web)),
+        tuple(q - len(web) for q in row), row[:2] + (third - len(web),), (first - len(web),) + row[1:],
+        row[:2] + (10 ** 5000,), row[:2] + (None,), row[:2] + (str(third),), row[:2] + ((third,),),
+        ([first],) + row[1:], ({},) + row[1:],
+    ]
+    for at, q in enumerate(row):
+        if q in (0, 1):
+            others.append(row[:at] + (q == 1,) + row[at + 1:])
+        for other in range(len(web)):
+            if other not in web[p]:
+                others.append(row[:at] + (other,) + row[at + 1:])
+    return others
+
+
 def bowl(many, far=10 ** 6 - 1):
     """So many corners, on a bowl's wall, that bend strictly to the right; their numbers have up to 12 figures."""
     return tuple((x, x * x - far) for x in [far - 7 * p for p in range(many)])
@@ -341,6 +545,13 @@ def drawing_of(spots):
     return tuple((pair_of(x), pair_of(y)) for x, y in spots)
 
 
+# No bases of FOUR.
+WRONG_BASES = [
+    (), (0,), (0, 1), (0, 1, 2, 3), (0, 2, 1), (1, 0, 2), (0, 1, 3), (0, 1, 4), (-4, 1, 2), (0, 1, -2),
+    (0, True, 2), (False, 1, 2), (0, 1, None), (0, 1, "2"), ((0, 1, 2),), ([0], 1, 2), (0, 0, 0),
+    (10 ** 5000, 1, 2), (0, 1, {}),
+]
+
 REFUSALS = [
     thing for thing in vars(errors).values()
     if isinstance(thing, type) and issubclass(thing, errors.DrawError) and thing is not errors.DrawError
@@ -357,3 +568,19 @@ class Refusing(unittest.TestCase):
         self.assertIsInstance(taken.exception, errors.DrawError)
         self.assertIsInstance(taken.exception, ValueError)
         return taken.exception
+
+    def refuse_webs_and_bases(self, asks):
+        """Each ask is of a web and a base; other things that it hands in may be wrong too."""
+        unflat = {web: len(cycles(web)) for web in other_webs()[:20] + [TWISTED, SEVEN]}
+        wide = {web: [face for face in faces_of(web) if len(face) != 3][:1] for web in flat_webs()}
+        for ask in asks:
+            for base in ((), (0, 1, 2)):
+                for web, many in unflat.items():
+                    self.assertEqual(self.taken(errors.NotFlat, ask, web, base).faces, many)
+                for web, face in wide.items():
+                    if face:
+                        self.assertEqual(self.taken(errors.NotCornered, ask, web, base).face, face[0])
+            self.assertEqual(self.taken(errors.NotCornered, ask, ring(4), (0, 1, 2)).face, (0, 1, 2, 3))
+            self.assertEqual(self.taken(errors.NotCornered, ask, CHAIN, (0, 1, 2)).face, (0, 1, 2, 1))
+            for base in WRONG_BASES:
+                self.taken(errors.NoBase, ask, FOUR, base)

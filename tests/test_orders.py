@@ -5,39 +5,9 @@ import unittest
 from restdraw.errors import NoBase, NoOrder, NotCornered, NotFlat
 from restdraw.orders import is_order, order_of, rounds, stretches
 from tests.helper import (
-    ANYTHING, CHAIN, FOUR, SEVEN, TRIANGLE, TWISTED, Refusing, bases_of, cycles, faces_of, flat_webs, least_first,
-    other_webs, put_amid, ring, star, three_cornered,
+    ANYTHING, FOUR, TRIANGLE, TWISTED, WRONG_BASES, Refusing, bases_of, faces_of, laid_plainly, least_first, put_amid,
+    ring, three_cornered, wrong_orders,
 )
-
-
-def corners_of(web):
-    """Each face of three, from each of its steps on."""
-    return {face[at:] + face[:at] for face in faces_of(web) for at in range(3)}
-
-
-def laid_plainly(web, base, order):
-    """The stretches and rounds, straight as the words go, or None where it is no order."""
-    a, b, c = base
-    if sorted(order) != list(range(len(web))) or order[:2] != (a, b) or order[-1] != c:
-        return None
-    corners = corners_of(web)
-    around, parts, tops = (a, b), [], [(a, b)]
-    for k, v in enumerate(order):
-        if k < 2:
-            continue
-        ahead = set(order[:k]) & set(web[v])
-        slices = [around[i:j] for i in range(len(around)) for j in range(i + 2, len(around) + 1)]
-        fitting = [part for part in slices if set(part) == ahead]
-        if not fitting:
-            return None
-        part = fitting[0]
-        if any((x, y, v) not in corners for x, y in zip(part, part[1:])):
-            return None
-        left, right = around.index(part[0]), around.index(part[-1])
-        around = around[:left + 1] + (v,) + around[right:]
-        parts.append(part)
-        tops.append(around)
-    return tuple(parts), tuple(tops)
 
 
 class TestOrders(Refusing):
@@ -130,30 +100,11 @@ class TestOrders(Refusing):
                 told[due] += 1
         self.assertGreater(min(told.values()), 20)
 
-    def wrong_orders(self, order):
-        yield from [(), order[:-1], order[1:], order + order[-1:], order + (len(order),), order[:1], order * 2]
-        yield from [order[::-1], (order,), tuple((p,) for p in order), tuple(str(p) for p in order)]
-        yield tuple(-1 if p == 0 else p for p in order)
-        yield tuple(p - len(order) for p in order)
-        yield tuple(len(order) if p == 0 else p for p in order)
-        yield tuple(10 ** 5000 if p == 0 else p for p in order)
-        yield tuple(bool(p) if p < 2 else p for p in order)
-        yield tuple(True if p == 1 else p for p in order)
-        yield tuple(False if p == 0 else p for p in order)
-        yield tuple(None if p == 2 else p for p in order)
-        yield tuple([p] if p == 2 else p for p in order)
-        yield tuple({} if p == 2 else p for p in order)
-        for at in range(len(order)):
-            others = [-1, order[at] - len(order), len(order), 10 ** 5000, order[at - 1], order[0], order[-1]]
-            for other in others:
-                if other != order[at]:
-                    yield order[:at] + (other,) + order[at + 1:]
-
     def test_wrong_ones(self):
         for web in (TRIANGLE, FOUR, three_cornered(9, 9), three_cornered(3, 40)):
             for base in bases_of(web)[:4]:
                 order = order_of(web, base)
-                for thing in self.wrong_orders(order):
+                for thing in wrong_orders(order):
                     self.assertIs(is_order(web, base, thing), False)
                     self.taken(NoOrder, rounds, web, base, thing)
                     self.taken(NoOrder, stretches, web, base, thing)
@@ -195,33 +146,9 @@ class TestOrders(Refusing):
         yield lambda web, base: rounds(web, base, ())
         yield lambda web, base: stretches(web, base, (0, 0))
 
-    def test_not_flat(self):
-        for ask in self.asked():
-            for web in other_webs()[:30] + [TWISTED, SEVEN]:
-                for base in ((), (0, 1, 2)):
-                    self.assertEqual(self.taken(NotFlat, ask, web, base).faces, len(cycles(web)))
-
-    def test_not_cornered(self):
-        for ask in self.asked():
-            for web in flat_webs():
-                wide = [face for face in faces_of(web) if len(face) != 3]
-                if wide:
-                    for base in ((), (0, 1, 2)):
-                        self.assertEqual(self.taken(NotCornered, ask, web, base).face, wide[0])
-        self.assertEqual(self.taken(NotCornered, order_of, ring(4), (0, 1, 2)).face, (0, 1, 2, 3))
-        self.assertEqual(self.taken(NotCornered, order_of, CHAIN, (0, 1, 2)).face, (0, 1, 2, 1))
-        self.assertEqual(self.taken(NotCornered, order_of, star(4), ()).face, faces_of(star(4))[0])
-
-    def test_no_base(self):
-        wrong = [
-            (), (0,), (0, 1), (0, 1, 2, 3), (0, 2, 1), (1, 0, 2), (0, 1, 3), (0, 1, 4), (-4, 1, 2), (0, 1, -2),
-            (0, True, 2), (False, 1, 2), (0, 1, None), (0, 1, "2"), ((0, 1, 2),), ([0], 1, 2), (0, 0, 0),
-            (10 ** 5000, 1, 2), (0, 1, {}),
-        ]
-        for ask in self.asked():
-            for base in wrong:
-                self.taken(NoBase, ask, FOUR, base)
-        for base in wrong:
+    def test_refused_webs_and_bases(self):
+        self.refuse_webs_and_bases(self.asked())
+        for base in WRONG_BASES:
             self.taken(NoBase, rounds, FOUR, base, (0, 1, 3, 2))
             self.taken(NoBase, is_order, FOUR, base, (0, 1, 3, 2))
 
