@@ -305,6 +305,10 @@ def renamed_by(web, names):
     return tuple(rows)
 
 
+def mirrored_plainly(web):
+    return tuple(least_first(row[::-1]) for row in web)
+
+
 def faces_of(web):
     """The faces, each from its least step on, sorted."""
     return sorted(tuple(p for p, q in steps) for steps in cycles(web))
@@ -519,6 +523,14 @@ def exchanged_rows(web, p, row):
 def bowl(many, far=10 ** 6 - 1):
     """So many corners, on a bowl's wall, that bend strictly to the right; their numbers have up to 12 figures."""
     return tuple((x, x * x - far) for x in [far - 7 * p for p in range(many)])
+
+
+def step_weights(chance, web, rim, share):
+    """Weights of about that share (of ten) of the steps from inner places."""
+    return {
+        (p, q): chance.choice((1, 2, 7, 1000000, chance.randrange(1, 1000001)))
+        for p, row in enumerate(web) for q in row if p not in rim and chance.randrange(10) < share
+    }
 
 
 def number(pair):

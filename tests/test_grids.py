@@ -9,7 +9,8 @@ from restdraw.judging import judged, outer
 from restdraw.orders import is_order, order_of
 from tests.helper import (
     FOUR, TRIANGLE, TWISTED, Refusing, any_meet, any_order, bases_of, cornered_cases, drawing_of, laid_plainly,
-    least_first, outer_of, pairs_of, put_amid, renamed_by, ring, three_cornered, web_of_points, wrong_orders,
+    least_first, mirrored_plainly, outer_of, pairs_of, put_amid, renamed_by, ring, three_cornered, web_of_points,
+    wrong_orders,
 )
 
 
@@ -33,10 +34,6 @@ def placed_plainly(web, base, order):
         holder[v] = v
         told.append(dict(spots))
     return told
-
-
-def mirrored_plainly(web):
-    return tuple(least_first(row[::-1]) for row in web)
 
 
 def exchanges(web, order):

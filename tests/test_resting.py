@@ -7,8 +7,8 @@ from restdraw.pulling import farthest, pull
 from restdraw.resting import at_rest
 from tests.helper import (
     ANYTHING, BOW, CHAIN, FOUR, SEVEN, TRIANGLE, TWISTED, Refusing, bowl, chain, cycles, drawing_of, faces_of,
-    flat_webs, hangs, meet, other_webs, pairs_of, renamed_by, ring, side, spot, star, three_cornered, three_tied,
-    three_tied_by_groups, web_of_points, wheel,
+    flat_webs, hangs, meet, other_webs, pairs_of, renamed_by, ring, side, spot, star, step_weights, three_cornered,
+    three_tied, three_tied_by_groups, web_of_points, wheel,
 )
 
 NOUGHT = ((0, 1), (0, 1))
@@ -23,14 +23,6 @@ def rest_webs():
     webs += [three_cornered(many, many) for many in (5, 8, 15)]
     webs += [three_tied(seed, 4 + seed % 12, seed % 7) for seed in range(36)]
     return webs
-
-
-def weights_by(chance, web, rim, share):
-    """Weights of about that share (of ten) of the steps from inner places."""
-    return {
-        (p, q): chance.choice((1, 2, 7, 1000000, chance.randrange(1, 1000001)))
-        for p, row in enumerate(web) for q in row if p not in rim and chance.randrange(10) < share
-    }
 
 
 def some_corners(chance, many):
@@ -106,7 +98,7 @@ class TestAtRest(Refusing):
             rims = faces_of(web)
             for rim in [max(rims, key=len)] + chance.sample(rims, 2):
                 sizes.add((len(web), len(rim)))
-                weights = weights_by(chance, web, rim, chance.choice((0, 3, 7, 10)))
+                weights = step_weights(chance, web, rim, chance.choice((0, 3, 7, 10)))
                 self.look_over(web, rim, some_corners(chance, len(rim)), weights)
         self.assertEqual({many for many, wide in sizes}, set(range(4, 16)))
         self.assertGreaterEqual({wide for many, wide in sizes}, {3, 4, 5, 6, 7})
@@ -123,7 +115,7 @@ class TestAtRest(Refusing):
         web = three_tied(3, 15, 5)
         rim = [face for face in faces_of(web) if len(face) == 3][0]
         corners = ((-far, -far), (1, far), (far, far - 1))
-        weights = weights_by(random.Random(1), web, rim, 10)
+        weights = step_weights(random.Random(1), web, rim, 10)
         self.look_over(web, rim, corners, weights)
 
     def test_any_other_drawing_pulls_somewhere(self):
@@ -131,7 +123,7 @@ class TestAtRest(Refusing):
             chance = random.Random(seed)
             web = three_tied(seed, 6 + seed % 9, 5)
             rim = chance.choice(faces_of(web))
-            weights = weights_by(chance, web, rim, 5)
+            weights = step_weights(chance, web, rim, 5)
             told = at_rest(web, rim, bowl(len(rim)), weights)
             other = list(told)
             for p in chance.sample([p for p in range(len(web)) if p not in rim], 2):
@@ -147,7 +139,7 @@ class TestAtRest(Refusing):
             web = three_tied(seed, 4 + seed % 12, 4)
             rim = chance.choice(faces_of(web))
             corners = some_corners(chance, len(rim))
-            weights = weights_by(chance, web, rim, 6)
+            weights = step_weights(chance, web, rim, 6)
             names = tuple(chance.sample(range(len(web)), len(web)))
             told = at_rest(web, rim, corners, weights)
             there = renamed_by(web, names)
