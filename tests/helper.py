@@ -1,4 +1,4 @@
-"""Webs and drawings for the tests, made without the program; and how refusals are looked at."""
+"""Webs, orders, woods and drawings for the tests, made without the program; and how refusals are looked at."""
 
 import itertools
 import random

@@ -1,3 +1,4 @@
+import itertools
 import random
 import unittest
 
@@ -7,9 +8,9 @@ from restdraw.grids import as_points
 from restdraw.judging import judged
 from restdraw.pictures import picture, read_picture
 from tests.helper import (
-    BOW, CHAIN, FOUR, SEVEN, TRIANGLE, TWISTED, Refusing, all_tied, any_meet, chain, cycles, faces_of, flat_webs,
-    mirrored_plainly, other_webs, pairs_of, random_flat, renamed_by, ring, star, three_cornered, three_tied,
-    web_of_points, wheel,
+    BOW, CHAIN, FOUR, SEVEN, TRIANGLE, TWISTED, Refusing, all_tied, any_meet, chain, cycles, faces_of, flat_by_count,
+    flat_webs, hangs, mirrored_plainly, other_webs, pairs_of, random_flat, renamed_by, ring, star, three_cornered,
+    three_tied, web_of_points, wheel,
 )
 
 
@@ -33,6 +34,17 @@ def hung_on(seed, web, many):
         rows[at].insert(chance.randrange(len(rows[at])) + 1, len(rows))
         rows.append([at])
     return tuple(tuple(row) for row in rows)
+
+
+def all_webs(many):
+    """All webs of so many places, but those with more ties than a flat one can have."""
+    pairs = list(itertools.combinations(range(many), 2))
+    for count in range(many - 1, 3 * many - 5):
+        for some in itertools.combinations(pairs, count):
+            if hangs(many, some):
+                rows = [sorted(sum(tie) - p for tie in some if p in tie) for p in range(many)]
+                turns = [[(row[0],) + rest for rest in itertools.permutations(row[1:])] for row in rows]
+                yield from itertools.product(*turns)
 
 
 class TestDrawn(Refusing):
@@ -62,6 +74,17 @@ class TestDrawn(Refusing):
             self.look_closely(web)
         self.assertEqual(sorted(drawn(TRIANGLE)), [(0, 0), (1, 1), (2, 0)])
         self.assertEqual(sorted(drawn(CHAIN)), [(0, 0), (1, 1), (2, 0)])
+
+    def test_all_webs_of_few_places(self):
+        flat = {3: 0, 4: 0, 5: 0}
+        for many in flat:
+            for web in all_webs(many):
+                if flat_by_count(web):
+                    self.look_over(web)
+                    flat[many] += 1
+                elif many < 5:
+                    self.assertEqual(self.taken(NotFlat, drawn, web).faces, len(cycles(web)))
+        self.assertEqual(flat, {3: 4, 4: 61, 5: 2332})
 
     def test_all_sorts(self):
         for web in flat_webs():
